@@ -1,0 +1,1 @@
+"""Cardwright: a batch language for records."""
