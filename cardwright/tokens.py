@@ -1,12 +1,14 @@
 """The tokens of a program text, and a cursor over them (points 400 to 405)."""
 
 from cardwright.decimals import parse
-from cardwright.errors import BadDecimal, BadProgram
-from cardwright.limits import MOST_DIGITS, MOST_PROGRAM, MOST_TEXT
+from cardwright.errors import BadDecimal, BadPicture, BadProgram
+from cardwright.limits import MOST_DIGITS, MOST_LEVEL, MOST_PROGRAM, MOST_TEXT
+from cardwright.pictures import parse_picture
 from cardwright.words import are_figures, is_name, is_printable
 
 QUOTE = "'"
 DOUBLED_QUOTE = "''"
+LEVEL_FIGURES = 2
 
 
 class Cursor:
@@ -29,6 +31,9 @@ class Cursor:
     def is_done(self):
         return self._at == len(self._tokens)
 
+    def is_at_string(self):
+        return not self.is_done() and self.peek() == ""
+
     def peek(self):
         return self._next_of_kind("word")
 
@@ -42,6 +47,13 @@ class Cursor:
         for word in words:
             if not self.accept(word):
                 self._refuse("word")
+
+    def take_one_of(self, words):
+        word = self.peek()
+        if word not in words:
+            self._refuse("word")
+        self._at = self._at + 1
+        return word
 
     def take_name(self):
         name = self.peek()
@@ -78,6 +90,26 @@ class Cursor:
             self._refuse("value")
         self._at = self._at + 1
         return int(word)
+
+    def take_level(self):
+        word = self.peek()
+        if not are_figures(word):
+            self._refuse("word")
+        if len(word) != LEVEL_FIGURES or not 1 <= int(word) <= MOST_LEVEL:
+            self._refuse("value")
+        self._at = self._at + 1
+        return int(word)
+
+    def take_picture(self):
+        word = self.peek()
+        if word == "":
+            self._refuse("word")
+        try:
+            picture = parse_picture(word)
+        except BadPicture:
+            raise BadProgram(self.row, "picture") from None
+        self._at = self._at + 1
+        return picture
 
     def _next_of_kind(self, kind):
         """Return the word of the next token, or the empty string if it is not of the kind."""

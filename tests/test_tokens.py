@@ -1,21 +1,14 @@
 import unittest
 
-from cardwright.errors import BadProgram
 from cardwright.tokens import Cursor, quoted, tokens
 from cardwright.words import RESERVED
+from support import FaultCase
 
 PERCENT = chr(37)
 
 
 def words(*rows):
     return [(line, "word", word) for line, word in rows]
-
-
-class FaultCase(unittest.TestCase):
-    def check_fault(self, line, reason, function, *given, **named):
-        with self.assertRaises(BadProgram, msg=(given, named)) as caught:
-            function(*given, **named)
-        self.assertEqual((caught.exception.line, caught.exception.reason), (line, reason), (given, named))
 
 
 class TestTokens(FaultCase):
@@ -242,6 +235,39 @@ class TestCursor(FaultCase):
         self.check_refused("1" * 19, "value", "take_integer", greatest=10 ** 30)
         for text in ["-5", "-0", "5.0", "5a", "a", "+5", "'5'", "''", ".", "-", "5)", "times"]:
             self.check_refused(text, "word", "take_integer", greatest=9)
+
+    def test_404_take_level(self):
+        for number in range(1, 50):
+            self.assertEqual(Cursor(str(number).zfill(2)).take_level(), number)
+
+    def test_405_take_level(self):
+        for text in ["00", "50", "99", "1", "0", "001", "010", "100", "1" * 5000]:
+            self.check_refused(text, "value", "take_level")
+        for text in ["-1", "1a", "a", ".", "'01'", "files", "+1", "1.", "-01"]:
+            self.check_refused(text, "word", "take_level")
+
+    def test_404_take_picture(self):
+        self.assertEqual(Cursor("s9(3)v99").take_picture(), ("number", True, 3, 2))
+        self.assertEqual(Cursor("x").take_picture(), ("text", 1))
+
+    def test_405_take_picture(self):
+        for text in ["x9", ".", "picture", "x(0)", "x(81)", "9.", "5", "x(80)x", "9" * 19, "x" * 30000]:
+            self.check_refused(text, "picture", "take_picture")
+        self.check_refused("'x'", "word", "take_picture")
+        self.check_refused("''", "word", "take_picture")
+
+    def test_404_take_one_of(self):
+        cursor = Cursor("a\nb 'a'")
+        self.assertEqual(cursor.take_one_of(("b", "a")), "a")
+        self.check_fault(2, "word", cursor.take_one_of, ("a", "c"))
+        self.assertEqual(cursor.take_one_of(("b",)), "b")
+        self.assertIs(cursor.is_at_string(), True)
+        self.check_fault(2, "word", cursor.take_one_of, ("a", "b"))
+        self.assertEqual(cursor.take_string(), "a")
+        self.assertIs(cursor.is_at_string(), False)
+        self.check_fault(2, "end", cursor.take_one_of, ("a", "b"))
+        self.check_fault(1, "end", Cursor("").take_level)
+        self.check_fault(1, "end", Cursor(" \n").take_picture)
 
     def test_404_after_a_refusal(self):
         cursor = Cursor("5 a 'b'")
