@@ -3,7 +3,7 @@
 import random
 import unittest
 
-from cardwright.errors import BadProgram
+from cardwright.errors import BadPart, BadProgram
 from cardwright.tokens import Cursor
 
 
@@ -37,6 +37,15 @@ class ReadCase(FaultCase):
     def check_no_tokens(self):
         for text in ["", " ", "\n \n"]:
             self.check_fault(1, "end", type(self).read, Cursor(text))
+
+
+def part_fault(function, *given):
+    """Return the reason and the name of the BadPart that a call raises, or None."""
+    try:
+        function(*given)
+    except BadPart as fault:
+        return fault.reason, fault.name
+    return None
 
 
 # Values that are no tree and no part of one, whatever the place.
