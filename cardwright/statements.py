@@ -73,7 +73,7 @@ def _is_way(value):
 def _are_parts(sorts, parts, levels):
     if len(parts) != len(sorts):
         return False
-    return all([_is_part(sort, part, levels) for sort, part in zip(sorts, parts)])
+    return all(_is_part(sort, part, levels) for sort, part in zip(sorts, parts))
 
 
 def _is_part(sort, value, levels):
@@ -119,4 +119,4 @@ def _are_sources(value):
 
 
 def _are_statements(value, levels):
-    return isinstance(value, tuple) and all([_is_statement_of(part, levels) for part in value])
+    return isinstance(value, tuple) and all(_is_statement_of(part, levels) for part in value)

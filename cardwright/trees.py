@@ -83,7 +83,7 @@ def _is_built(value, kinds, is_plain, levels):
     if kind not in kinds:
         return kind != "" and is_plain(value)
     parts = value[1:]
-    return len(parts) == MANY_PARTS[kind] and all([_is_built(part, kinds, is_plain, levels - 1) for part in parts])
+    return len(parts) == MANY_PARTS[kind] and all(_is_built(part, kinds, is_plain, levels - 1) for part in parts)
 
 
 def _is_plain_expression(value):

@@ -114,6 +114,12 @@ class TestExpressions(TreeCase):
             self.check(is_expression, [nested(kind, 20, A), nested(kind, 19, ONE)], [
                 nested(kind, 21, A), nested(kind, 22, A), nested(kind, 5000, A)])
 
+    def test_407_a_deep_tree_with_common_parts(self):
+        tree = A
+        for _ in range(200):
+            tree = ("plus", tree, tree)
+        self.assertIs(is_expression(tree), False)
+
     def test_407_other_values(self):
         self.check(is_expression, [], ODD_VALUES + [None, 0, 1, True, False, "", "a", (), -1, "ref", "plus"])
 
