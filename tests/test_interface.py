@@ -32,6 +32,11 @@ FUNCTIONS = {
     "writing": ["expression_text(tree)", "condition_text(tree)", "entry_row(entry)", "statement_rows(statement)", "text_of(program)"],
     "kinds": ["check_reference(scope, reference)", "check_expression(scope, tree)", "check_condition(scope, tree)"],
     "rules": ["check_statement(scope, statement)"],
+    "performs": ["performed(statements)", "graph_of(paragraphs)", "ranks(graph)", "circle(graph)"],
+    "checker": ["check(program)"],
+    "meaning": ["run_plain(program, lines, steps)", "order_of(op, sign)", "compare_texts(one, other)",
+                "sorted_rows(rows, offset, picture, is_descending)"],
+    "code": ["check_forms(code)"],
 }
 METHODS = {
     ("layout", "Layout"): ["__init__(self, entries)", "size(self)", "names(self)", "records(self)", "item(self, name)", "kind(self, name)",
@@ -42,6 +47,10 @@ METHODS = {
                            "take_integer(self, *, least=0, greatest)"],
     ("names", "Scope"): ["__init__(self, program)", "check_item(self, name)", "check_file(self, name, kind)", "place_of(self, name)",
                          "is_within(self, name, outer)", "is_table(self, name)"],
+    ("files", "Files"): ["__init__(self, files, lines)", "read(self, name, size, cells)", "write(self, name, text)", "show(self, text)",
+                         "record_of(self, name)", "outputs(self)"],
+    ("code", "Code"): ["__init__(self, files, size, constants, cells, starts, instructions)", "length(self)", "region(self, paragraph)",
+                       "with_instructions(self, starts, instructions)"],
 }
 
 
