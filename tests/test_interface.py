@@ -37,6 +37,12 @@ FUNCTIONS = {
     "meaning": ["run_plain(program, lines, steps)", "order_of(op, sign)", "compare_texts(one, other)",
                 "sorted_rows(rows, offset, picture, is_descending)"],
     "code": ["check_forms(code)"],
+    "examiner": ["examine(code)"],
+    "machine": ["run_code(code, storage, lines, steps)"],
+    "compiler": ["compile_program(program)"],
+    "flow": ["reached(starts, rows)"],
+    "shortener": ["shorten(code)"],
+    "jobs": ["load(text)", "run_job(text, lines, steps, way)", "report(outcome)"],
 }
 METHODS = {
     ("layout", "Layout"): ["__init__(self, entries)", "size(self)", "names(self)", "records(self)", "item(self, name)", "kind(self, name)",
