@@ -20,13 +20,13 @@ def examine(code):
 
 
 def _is_memory_right(code):
-    most = code.size + len(code.constants)
     free = 0
     for offset in sorted(code.cells):
         picture = code.cells[offset]
         end = offset + size_of(picture)
-        if offset < free or end > most or offset < code.size < end:
+        if offset < free or offset < code.size < end:
             return False
+        # Behind the last constant there is no text to hold.
         if offset >= code.size and not holds(picture, code.constants[offset - code.size:end - code.size]):
             return False
         free = end
@@ -34,8 +34,9 @@ def _is_memory_right(code):
 
 
 def _check_end(code, paragraph):
-    start, end = code.region(paragraph)
-    if start >= end or code.instructions[end - 1:end] != (("leave", paragraph),):
+    # Of a paragraph without instructions, this is the last one of the paragraph ahead of it.
+    _, end = code.region(paragraph)
+    if code.instructions[end - 1:end] != (("leave", paragraph),):
         raise BadCode(end - 1, "leave")
 
 

@@ -26,9 +26,9 @@ class Rows:
         self._is_next_entry = False
         self._places = []
 
-    def leave_out(self, is_entry):
+    def leave_out(self):
+        # What led to it goes on at the row that comes next. That of a jump to the next place is an entry anyway.
         self._places.append(len(self._rows))
-        self._is_next_entry = self._is_next_entry or is_entry
 
     def add_row(self, instruction, is_entry):
         self._places.append(len(self._rows))
@@ -63,7 +63,7 @@ def _shortened_once(code):
     rows = Rows()
     for place, instruction in enumerate(code.instructions):
         if place not in lasts and (place not in found or instruction == ("jump", place + 1)):
-            rows.leave_out(place in entries)
+            rows.leave_out()
         else:
             rows.add_row(instruction, place in entries)
     return code.with_instructions([rows.place_of(start) for start in code.starts], rows.finished())

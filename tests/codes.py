@@ -200,3 +200,49 @@ class Pieces:
             paragraphs.append(self.paragraph(many, start))
             start += len(paragraphs[-1]) + 1
         return code_of_paragraphs(paragraphs, self.STORAGE, self.CONSTANTS, self.FILES)
+
+
+class Changes:
+    """Makes code at random out of other code: rows are changed, taken away, doubled and mixed."""
+
+    def __init__(self, random, code):
+        self.random = random
+        self.code = code
+        pictures = sorted(set(code.cells.values()), key=str)
+        offsets = sorted(code.cells) + [code.size + len(code.constants)]
+        self.values = pictures + offsets + [True, False, None, 0, 1, 2, 3, 4, 9, -1, 10 ** 9, "=", "<", ">", "<>"]
+
+    def pick(self, values):
+        return values[self.random.randrange(len(values))]
+
+    def changed_row(self, row):
+        at = self.random.randrange(len(row))
+        if at == 0:
+            return (self.pick(["load", "keep", "try", "add", "drop", "double", "negate", "jump", "zero", "copy", "texts", "digits", "show-text", "step", "at", "push"]),) + row[1:]
+        same = [value for value in self.values if isinstance(value, type(row[at]))]
+        if isinstance(row[at], int) and not isinstance(row[at], bool):
+            same += [row[at] + 1, row[at] - 1, row[at] + 2]
+        return row[:at] + (self.pick(same or self.values),) + row[at + 1:]
+
+    def leads_behind(self, row, place):
+        return row[0] in ("jump", "zero") and len(row) == 2 and isinstance(row[1], int) and row[1] > place
+
+    def made(self):
+        rows = list(self.code.instructions)
+        starts = list(self.code.starts)
+        for _ in range(self.random.randrange(1, 4)):
+            place = self.random.randrange(len(rows))
+            kind = self.random.randrange(6)
+            if kind < 3:
+                rows[place] = self.changed_row(rows[place])
+            elif kind == 3:
+                rows[place] = self.pick(rows)
+            elif kind == 4:
+                other = self.random.randrange(len(rows))
+                rows[place], rows[other] = rows[other], rows[place]
+            else:
+                # A row is doubled; what leads behind it goes on leading there.
+                rows = [(row[0], row[1] + 1) if self.leads_behind(row, place) else row for row in rows]
+                rows.insert(place, rows[place])
+                starts = [start + 1 if start > place else start for start in starts]
+        return self.code.with_instructions(starts, rows)

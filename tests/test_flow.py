@@ -48,6 +48,10 @@ class TestReached(unittest.TestCase):
         self.check([0, 1, 2], (0, 3), ("leave", 1), ("leave", 0), ("leave", 0), ("leave", 1))
         self.check([0, 1], (0, 2), ("step", 1), ("leave", 0), ("leave", 1))
 
+    def test_803_jumps_out_of_the_rows(self):
+        self.check([0], (0,), ("jump", 9), ("leave", 0))
+        self.check([0, 1], (0,), ("jump", 1), ("step", 1))
+
     def test_803_random(self):
         for seed in range(300):
             code = Pieces(random.Random(seed)).code()

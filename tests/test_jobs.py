@@ -1,5 +1,8 @@
+import contextlib
 import unittest
+from unittest import mock
 
+from cardwright import jobs
 from cardwright.errors import BadJob, BadProgram
 from cardwright.jobs import load, report, run_job
 from cardwright.parsing import parse
@@ -63,6 +66,14 @@ class TestRunJob(JobCase):
                 "stop", 73, "dee 070095", (("list-file", ("ann 08", "bob 40", "bob 40", "dee 07")),), ("ann 8", "bob 48", "bad line", "bob 88", "dee 95")))
             self.assertEqual(run_job(NO_FILES, {}, 2, way), ("end", 0, "5", (), ("5",)))
             self.assertEqual(run_job(NO_FILES, {}, MOST, way), ("end", MOST - 2, "5", (), ("5",)))
+
+    def test_900_what_each_way_runs(self):
+        names = ["run_plain", "compile_program", "shorten", "run_code"]
+        for way, used in [("plain", [True, False, False, False]), ("code", [False, True, False, True]), ("short", [False, True, True, True])]:
+            with contextlib.ExitStack() as stack:
+                patches = [stack.enter_context(mock.patch.object(jobs, name, wraps=getattr(jobs, name))) for name in names]
+                run_job(TEXT, LINES, 100, way)
+            self.assertEqual([patch.called for patch in patches], used, way)
 
     def test_900_every_number_of_steps(self):
         for steps in range(30):

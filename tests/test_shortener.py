@@ -100,6 +100,18 @@ class TestShorten(ShortCase):
         self.check_shorter([("jump", at + 1) for at in range(many)], [])
         self.check_shorter([("push", 1), ("zero", 0)] * many, [])
 
+    def test_802_jumps_to_what_is_taken_away(self):
+        taken = [("at", 0), ("load", DIGIT), ("zero", 1)]
+        self.check_shorter([("step", 1), ("push", 5), ("drop",), ("step", 2)] + taken, [("step", 1), ("step", 2)] + taken)
+        self.check_shorter([("step", 1), ("push", 5), ("zero", 0), ("push", 0), ("zero", 5), ("step", 2)] + taken, [("step", 1), ("step", 2)] + taken)
+        self.check_shorter([("step", 1), ("jump", 2), ("step", 2)] + taken, [("step", 1), ("step", 2)] + taken)
+        self.check_shorter([("step", 1), ("push", 1), ("drop",), ("push", 7), ("drop",), ("step", 2)] + taken, [("step", 1), ("step", 2)] + taken)
+        self.check_shorter([("push", 3), ("push", 5), ("drop",), ("drop",), ("step", 1), ("at", 0), ("load", DIGIT), ("zero", 0)],
+                           [("step", 1), ("at", 0), ("load", DIGIT), ("zero", 0)])
+        # A jump leads to a `push` that is taken together with what comes behind it.
+        rows = [("at", 0), ("load", DIGIT), ("zero", 4), ("step", 1), ("push", 5), ("negate",), ("show-number", 0)]
+        self.check_shorter(rows, rows[:4] + [("push", -5), ("show-number", 0)])
+
     def test_802_rings(self):
         self.check_shorter([("jump", 0)], [("jump", 0)])
         self.check_shorter([("jump", 1), ("jump", 0)], [("jump", 0)])
