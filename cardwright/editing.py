@@ -3,7 +3,7 @@
 from cardwright.decimals import fits, normal, power
 from cardwright.errors import BadPicture
 from cardwright.pictures import digits_in, is_signed, size_of
-from cardwright.words import are_figures, is_printable
+from cardwright.words import FIGURES, is_printable
 
 DIGIT_MARKS = ("z", "*", "9")
 HIDING_MARKS = ("z", "*")
@@ -104,11 +104,9 @@ def _likely_units(picture, text):
     """Return the only units that may have the text, which has the size of the picture."""
     sign, body = _sign_and_body(picture, text)
     marks = picture[1] if picture[0] == "edited" else "9" * len(body)
-    figures = []
-    for mark, character in zip(marks, body):
-        if mark in DIGIT_MARKS:
-            figures.append(character if are_figures(character) else "0")
-    units = int("".join(figures))
+    digits = [character for mark, character in zip(marks, body) if mark in DIGIT_MARKS]
+    # A digit that is hidden is 0.
+    units = int("".join([character if character in FIGURES else "0" for character in digits]))
     return -units if sign in NEGATIVE_SIGNS else units
 
 
